@@ -1,0 +1,1 @@
+"""Series of days, and what has been done to their steps."""
