@@ -11,6 +11,7 @@ MOST_SERIES = 8
 MOST_STEPS = 100
 MOST_EVERY = 400
 LAST_NAME = 999
+MOST_TOLD = 40
 
 # The refusals. None of the calls changes anything ahead of its last refusal.
 NOT_ALLOWED = -1
@@ -18,10 +19,11 @@ NOT_FITTING = -2
 NO_SERIES = -3
 NO_STEP = -4
 TOO_MANY = -5
+NONE_SHOWN = -6
 
 
 def is_place(day, minute):
-    return day <= LAST_DAY and minute <= LAST_MINUTE
+    return 0 <= day <= LAST_DAY and 0 <= minute <= LAST_MINUTE
 
 
 def is_rule(way, every, steps):
@@ -124,3 +126,68 @@ class Book:
         series.take_steps(other)
         self.kept.pop(other_number)
         return [len(series.steps)]
+
+    def shift_series(self, number, days, minutes):
+        if number not in self.kept:
+            return [NO_SERIES]
+        series = self.kept[number]
+        first = series.first + days
+        # Minutes don't run over into another day: behind a day's last minute there's no such minute.
+        minute = series.minute + minutes
+        if not is_place(first, minute):
+            return [NOT_ALLOWED]
+        series.first = first
+        series.minute = minute
+        return [first, minute]
+
+    def name_series(self, number, name):
+        if number not in self.kept:
+            return [NO_SERIES]
+        if name > LAST_NAME:
+            return [NOT_ALLOWED]
+        series = self.kept[number]
+        before = series.name
+        series.name = name
+        return [before]
+
+    def end_series(self, number):
+        if number not in self.kept:
+            return [NO_SERIES]
+        series = self.kept.pop(number)
+        return [len(series.shown_steps())]
+
+    def all_shown(self):
+        rows = []
+        for number, series in self.kept.items():
+            rows.extend(series.shown_rows(number))
+        return sorted(rows)
+
+    def show_days(self, first, last):
+        rows = [row for row in self.all_shown() if first <= row[0] <= last]
+        told = [len(rows)]
+        for row in rows[:MOST_TOLD]:
+            told.extend(row)
+        return told
+
+    def tell_step(self, number, step):
+        refusal = self.step_refusal(number, step)
+        if refusal < 0:
+            return [refusal]
+        series = self.kept[number]
+        place = series.place_at(step)
+        off = 1 if series.steps[step].off else 0
+        return [off, place[0], place[1], series.name_at(step), series.day_at(step)]
+
+    def next_shown(self, day, minute):
+        for row in self.all_shown():
+            if (row[0], row[1]) >= (day, minute):
+                return list(row)
+        return [NONE_SHOWN]
+
+    def tell_series(self, number):
+        if number not in self.kept:
+            return [NO_SERIES]
+        series = self.kept[number]
+        done = series.done_steps()
+        told = [series.first, series.way, series.every, len(series.steps), series.minute, series.name]
+        return told + [len(series.shown_steps()), len(done)] + done

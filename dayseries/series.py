@@ -19,7 +19,7 @@ class Step:
 
 class Series:
     # What has been done is kept step by step, not by days: so it goes along with its step
-    # when the series is cut or put together, whatever the series' first day is.
+    # when the series is shifted, cut or put together, whatever the series' first day is.
     def __init__(self, first, way, every, minute, name, steps):
         self.first = first
         self.way = way
@@ -43,6 +43,31 @@ class Series:
         if own is None:
             return self.name
         return own
+
+    # Where the step is shown, or would be if it weren't called off.
+    def place_at(self, step):
+        moved = self.steps[step].moved
+        if moved is None:
+            return (self.day_at(step), self.minute)
+        return moved
+
+    # A step without a day isn't shown, even if it has been moved to one.
+    def is_shown_at(self, step):
+        return not self.steps[step].off and self.has_day_at(step)
+
+    def shown_steps(self):
+        return [step for step in range(len(self.steps)) if self.is_shown_at(step)]
+
+    def done_steps(self):
+        return [step for step in range(len(self.steps)) if not self.steps[step].is_plain()]
+
+    # The numbers of a row stand in the order in which rows are told, so that rows can be sorted as they are.
+    def shown_rows(self, number):
+        rows = []
+        for step in self.shown_steps():
+            place = self.place_at(step)
+            rows.append((place[0], place[1], number, step, self.name_at(step)))
+        return rows
 
     def make_plain(self, step):
         self.steps[step] = Step()

@@ -31,9 +31,37 @@ def join(number, other):
     return [6, number, other]
 
 
+def shift(number, days, minutes):
+    return [7, number, days, minutes]
+
+
+def name(number, new):
+    return [8, number, new]
+
+
+def end(number):
+    return [9, number]
+
+
+def show(first, second):
+    return [10, first, second]
+
+
+def one(number, step):
+    return [11, number, step]
+
+
+def next_from(day, minute):
+    return [12, day, minute]
+
+
+def tell(number):
+    return [13, number]
+
+
 def ask_all(*calls):
     """The answers to all calls of one line, a list each."""
-    told = answers([number for one in calls for number in one])
+    told = answers([number for call_numbers in calls for number in call_numbers])
     split = []
     at = 0
     while at < len(told):
@@ -57,3 +85,20 @@ def ask(*calls):
 def last(*calls):
     """The one number that the last call of a line answers."""
     return ask(*calls)[-1]
+
+
+def last_all(*calls):
+    """All numbers that the last call of a line answers."""
+    return ask_all(*calls)[-1]
+
+
+def rows_of(told):
+    """What show answers, as rows of five."""
+    if len(told) != 1 + 5 * min(told[0], 40):
+        raise AssertionError(f"not five numbers of each: {told}")
+    return [tuple(told[at:at + 5]) for at in range(1, len(told), 5)]
+
+
+def shown(*calls):
+    """All that's shown at the end of a line (of at most 40), as rows of five."""
+    return rows_of(last_all(*calls, show(0, 40000)))

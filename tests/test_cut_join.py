@@ -2,7 +2,8 @@
 
 import unittest
 
-from helper import ask, call, cut, join, last, move, off, plain, series
+from helper import (ask, ask_all, call, cut, end, join, last, last_all, move, off, one, plain, rows_of, series, shift,
+                    show, shown, tell)
 
 WEEKLY = series(100, 0, 7, 5, 540, 3)
 # Day 30 is the 31st of January 2000: steps 1, 3 and 5 have no day.
@@ -147,6 +148,17 @@ class CutAndJoinedAgain(unittest.TestCase):
         done = [off(0, 0), call(0, 2, 5), move(0, 4, 1, 1), off(0, 6), call(0, 7, 6)]
         self.check(MONTHLY, 8, done, (2, 4, 6, 7))
 
+    def test_tell_and_show_and_one_say_the_same(self):
+        # Step 3 is called off while it has a day, and has none where the series is cut.
+        without_a_day = [shift(0, -1, 0), off(0, 3), move(0, 5, 9, 9), shift(0, 1, 0), call(0, 7, 8)]
+        for begin, steps, done, cuts in ((WEEKLY, 5, DONE, (1, 2, 3, 4)), (MONTHLY, 8, without_a_day, (2, 4, 6, 7)),
+                                         (series(36510, 0, 7, 5), 5, [off(0, 1), call(0, 2, 8)], (1, 2))):
+            probes = [tell(0), show(0, 40000)] + [one(0, step) for step in range(steps)]
+            plainly = ask_all(begin, *done, *probes)[1 + len(done):]
+            for step in cuts:
+                told = ask_all(begin, *done, cut(0, step), join(0, 1), *probes)[1 + len(done):]
+                self.assertEqual(told, [[1], [steps]] + plainly, (begin, step))
+
     def test_in_three_parts_put_together_from_behind(self):
         told = ask(WEEKLY, *DONE, cut(0, 1), cut(1, 2), join(1, 2), join(0, 1), off(0, 0), call(0, 1, 1), plain(0, 2),
                    off(0, 3), call(0, 3, 1), call(0, 4, 1), off(0, 4))
@@ -158,6 +170,38 @@ class CutAndJoinedAgain(unittest.TestCase):
 
     def test_the_number_is_free_again(self):
         self.assertEqual(ask(WEEKLY, cut(0, 2), join(0, 1), series(5), off(1, 0))[1:], [1, 5, 1, 5])
+
+
+class CutShowsWhatItShowed(unittest.TestCase):
+    def check(self, begin, done, cuts):
+        whole = shown(begin, *done)
+        for step in cuts:
+            told = ask_all(begin, *done, cut(0, step), show(0, 40000), tell(0), tell(1))
+            # The same, but that the second part's steps count from 0 on, under its own number.
+            expected = [row if row[3] < step else row[:2] + (1, row[3] - step, row[4]) for row in whole]
+            self.assertEqual(rows_of(told[-3]), sorted(expected), (begin, step))
+            self.assertEqual(told[-2][6] + told[-1][6], len(whole), (begin, step))
+
+    def test_by_days(self):
+        self.check(WEEKLY, [], range(1, 5))
+        self.check(WEEKLY, DONE, range(1, 5))
+
+    def test_by_months(self):
+        for first in (0, 27, 28, 29):
+            self.check(series(first, 1, 1, 30, 5, 6), [off(0, 2), move(0, 3, 800, 8), call(0, 4, 9)], (2, 3, 4, 12, 29))
+        self.check(MONTHLY, [off(0, 0), call(0, 2, 5), move(0, 4, 1, 1)], (2, 4, 6, 7))
+        self.check(series(59, 1, 12, 30), [off(0, 4), move(0, 8, 1, 1)], (4, 8, 28))
+
+    def test_steps_without_a_day(self):
+        self.check(MONTHLY, [shift(0, -1, 0), off(0, 3), move(0, 5, 9, 9), shift(0, 1, 0)], (2, 4, 6, 7))
+        self.check(series(36510, 0, 7, 5), [move(0, 1, 1, 1)], (1, 2))
+
+    def test_steps_moved_across_the_cut(self):
+        self.check(WEEKLY, [move(0, 4, 0, 0), move(0, 0, 36524, 0)], range(1, 5))
+
+    def test_once_a_part_has_ended_the_other_is_shown_alone(self):
+        told = last_all(WEEKLY, *DONE, cut(0, 2), end(0), show(0, 40000))
+        self.assertEqual(rows_of(told), [(9, 9, 1, 0, 3), (128, 540, 1, 2, 14)])
 
 
 if __name__ == "__main__":

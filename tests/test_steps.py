@@ -2,8 +2,7 @@
 
 import unittest
 
-from dayseries.book import Book
-from helper import ask, call, cut, join, last, move, off, plain, series
+from helper import ask, ask_all, call, cut, join, last, move, off, one, plain, series
 
 WEEKLY = series(100, 0, 7, 5, 540, 3)
 # Day 30 is the 31st of January 2000: steps 1 and 3 have no day.
@@ -13,44 +12,44 @@ MONTHLY = series(30, 1, 1, 5, 540, 3)
 class AllWithAStep(unittest.TestCase):
     def every_call(self, number, step):
         return (move(number, step, 5, 5), off(number, step), call(number, step, 5), plain(number, step),
-                cut(number, step))
+                cut(number, step), one(number, step))
 
     def test_no_such_series(self):
         for number in (1, 7, 8, 20):
-            for one in self.every_call(number, 0) + (join(0, number), join(number, 0), join(number, number)):
-                self.assertEqual(last(WEEKLY, one), -3, one)
+            for asked in self.every_call(number, 0) + (join(0, number), join(number, 0), join(number, number)):
+                self.assertEqual(last(WEEKLY, asked), -3, asked)
 
     def test_no_series_at_all(self):
-        for one in self.every_call(0, 0) + (join(0, 0), join(0, 1)):
-            self.assertEqual(last(one), -3, one)
+        for asked in self.every_call(0, 0) + (join(0, 0), join(0, 1)):
+            self.assertEqual(last(asked), -3, asked)
 
     def test_no_such_step(self):
         for step in (5, 6, 99, 100, 300):
-            for one in self.every_call(0, step):
-                self.assertEqual(last(WEEKLY, one), -4, one)
+            for asked in self.every_call(0, step):
+                self.assertEqual(last(WEEKLY, asked), -4, asked)
 
     def test_the_month_has_no_such_day(self):
         for step in (1, 3):
-            for one in self.every_call(0, step):
-                self.assertEqual(last(MONTHLY, one), -4, one)
+            for asked in self.every_call(0, step):
+                self.assertEqual(last(MONTHLY, asked), -4, asked)
 
     def test_behind_all_days(self):
         for begin in (series(36524, 0, 1, 3), series(36524, 1, 1, 3), series(36125, 0, 400, 3)):
-            for one in self.every_call(0, 1):
-                self.assertEqual(last(begin, one), -4, one)
+            for asked in self.every_call(0, 1):
+                self.assertEqual(last(begin, asked), -4, asked)
 
     def test_no_series_ahead_of_no_step(self):
-        for one in self.every_call(1, 300):
-            self.assertEqual(last(WEEKLY, one), -3, one)
+        for asked in self.every_call(1, 300):
+            self.assertEqual(last(WEEKLY, asked), -3, asked)
 
     def test_no_series_ahead_of_the_calls_own(self):
-        for one in (move(1, 0, 36525, 1440), call(1, 0, 1000), cut(1, 0)):
-            self.assertEqual(last(WEEKLY, one), -3, one)
+        for asked in (move(1, 0, 36525, 1440), call(1, 0, 1000), cut(1, 0)):
+            self.assertEqual(last(WEEKLY, asked), -3, asked)
 
     def test_no_step_ahead_of_the_calls_own(self):
         for begin, step in ((WEEKLY, 5), (MONTHLY, 1), (series(36524, 0, 1, 2), 1)):
-            for one in (move(0, step, 36525, 0), move(0, step, 0, 1440), call(0, step, 1000)):
-                self.assertEqual(last(begin, one), -4, one)
+            for asked in (move(0, step, 36525, 0), move(0, step, 0, 1440), call(0, step, 1000)):
+                self.assertEqual(last(begin, asked), -4, asked)
             self.assertEqual(last(*[begin] * 8, cut(0, step)), -4)
 
 
@@ -79,21 +78,12 @@ class Move(unittest.TestCase):
     def test_one_that_is_off_stays_off(self):
         self.assertEqual(ask(WEEKLY, off(0, 1), move(0, 1, 9, 9), off(0, 1))[2:], [107, -2])
 
-    def test_it_is_kept_where_it_has_been_moved(self):
-        book = Book()
-        book.new_series(100, 0, 7, 5, 540, 3)
-        book.move_step(0, 2, 9, 8)
-        book.move_step(0, 3, 36524, 1439)
-        book.move_step(0, 3, 36525, 7)
-        book.move_step(0, 4, 1, 1)
-        book.make_step_plain(0, 4)
-        kept = [step.moved for step in book.kept[0].steps]
-        self.assertEqual(kept, [None, None, (9, 8), (36524, 1439), None])
-        book.cut_series(0, 3)
-        self.assertEqual([step.moved for step in book.kept[0].steps], kept[:3])
-        self.assertEqual([step.moved for step in book.kept[1].steps], kept[3:])
-        book.join_series(0, 1)
-        self.assertEqual([step.moved for step in book.kept[0].steps], kept)
+    def test_it_is_there_through_a_cut_and_a_join(self):
+        done = [move(0, 2, 9, 8), move(0, 3, 36524, 1439), move(0, 3, 36525, 7), move(0, 4, 1, 1), plain(0, 4)]
+        places = [[0, 107, 540, 3, 107], [0, 9, 8, 3, 114], [0, 36524, 1439, 3, 121], [0, 128, 540, 3, 128]]
+        asked = [one(0, step) for step in range(1, 5)]
+        told = ask_all(WEEKLY, *done, *asked, cut(0, 3), one(0, 1), one(0, 2), one(1, 0), one(1, 1), join(0, 1), *asked)
+        self.assertEqual(told[6:], places + [[1]] + places + [[5]] + places)
 
 
 class Off(unittest.TestCase):
